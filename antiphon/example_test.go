@@ -1,0 +1,31 @@
+package antiphon_test
+
+import (
+	"fmt"
+
+	"antiphon/antiphon"
+	"antiphon/api"
+)
+
+func Example() {
+	x, _ := antiphon.New(api.Config{Centres: 2, Shards: 1, Keys: 2})
+	here, _ := x.Open(0)
+	there, _ := x.Open(1)
+
+	x.Put(here, 0, 7)
+	x.Deliver(0) // PUT: the server answers, and sends a copy to the other centre
+	x.Deliver(1) // PUTTED: it is done
+	results, _ := x.Results(here)
+	fmt.Println(results[0].Versions, results[0].Values)
+
+	x.Deliver(0) // COPY: it is visible in the other centre, too
+	x.Get(there, 0)
+	for x.Bag() > 0 {
+		x.Deliver(0)
+	}
+	results, _ = x.Results(there)
+	fmt.Println(results[0].Versions, results[0].Values)
+	// Output:
+	// [{1 0}] [7]
+	// [{1 0}] [7]
+}

@@ -1,0 +1,73 @@
+package server
+
+import "antiphon/api"
+
+func (s *Server) sendCopies(w *write) {
+	for twin := range s.plan.Twins(s.Address()) {
+		if !w.kept[s.plan.Centre(twin)] {
+			s.Send(api.Message{Kind: api.Copy, To: twin, Key: w.key, Version: w.Version, Value: w.Value, Past: w.Past})
+		}
+	}
+}
+
+func (s *Server) copy(m api.Message) {
+	w := s.reached[m.Version]
+	isNew := w == nil
+	if isNew {
+		w = s.keep(m.Version, m)
+		s.findNeeds(w)
+		s.sendNeeds(w)
+	}
+	s.Send(api.Message{Kind: api.Kept, To: m.From, Key: m.Key, Version: m.Version})
+	if isNew && len(w.needs) == 0 {
+		s.becomeVisible(w)
+	}
+}
+
+func (s *Server) kept(m api.Message) {
+	if w := s.reached[m.Version]; w != nil {
+		w.kept[s.plan.Centre(m.From)] = true
+	}
+}
+
+func (s *Server) sendSeen(w *write) {
+	s.Send(api.Message{Kind: api.Seen, To: w.Version.Server, Key: w.key, Version: w.Version})
+}
+
+func (s *Server) seen(m api.Message) {
+	w := s.reached[m.Version]
+	if w == nil {
+		return
+	}
+	if w.Everywhere != 0 {
+		s.sendEverywhere(m.From, w)
+		return
+	}
+	w.seen[s.plan.Centre(m.From)] = true
+	if !s.isSeenByAll(w) {
+		return
+	}
+	w.Everywhere = s.Now()
+	for twin := range s.plan.Twins(s.Address()) {
+		s.sendEverywhere(twin, w)
+	}
+}
+
+func (s *Server) isSeenByAll(w *write) bool {
+	for twin := range s.plan.Twins(s.Address()) {
+		if !w.seen[s.plan.Centre(twin)] {
+			return false
+		}
+	}
+	return true
+}
+
+func (s *Server) sendEverywhere(to int, w *write) {
+	s.Send(api.Message{Kind: api.Everywhere, To: to, Key: w.key, Version: w.Version})
+}
+
+func (s *Server) everywhere(m api.Message) {
+	if w := s.visible(m.Version); w != nil && w.Everywhere == 0 {
+		w.Everywhere = s.Now()
+	}
+}
