@@ -156,3 +156,12 @@ func dep(key, clock, server int) api.Dep { return api.Dep{Key: key, Version: ver
 func result(kind, begun, done int, d api.Dep, value int) api.Result {
 	return api.Result{Kind: kind, Begun: begun, Done: done, Keys: []int{d.Key}, Versions: []api.Version{d.Version}, Values: []int{value}}
 }
+
+func results(kind, begun, done int, deps []api.Dep, values ...int) api.Result {
+	r := api.Result{Kind: kind, Begun: begun, Done: done, Values: values}
+	for _, d := range deps {
+		r.Keys = append(r.Keys, d.Key)
+		r.Versions = append(r.Versions, d.Version)
+	}
+	return r
+}

@@ -114,7 +114,9 @@ func TestErrors(t *testing.T) {
 		for _, key := range anyKey {
 			refused("P5: Put", api.ErrArg, b.Put(s, key, 1), 0)
 			refused("P5: Get", api.ErrArg, b.Get(s, key), 0)
+			refused("P5: Trans", api.ErrArg, b.Trans(s, key), 0)
 		}
+		refused("P5: Trans", api.ErrArg, b.Trans(s), 0)
 		results, e := b.Results(s)
 		refused("P7: Results", api.ErrArg, e, len(results))
 		context, e := b.Context(s)
@@ -124,11 +126,21 @@ func TestErrors(t *testing.T) {
 		for s := range b.sessions { // also of the one that is busy
 			refused("P5: Put", api.ErrArg, b.Put(s, key, 1), 0)
 			refused("P5: Get", api.ErrArg, b.Get(s, key), 0)
+			refused("P5: Trans", api.ErrArg, b.Trans(s, key), 0)
+			refused("P5: Trans", api.ErrArg, b.Trans(s, key, 0, 1), 0)
+			refused("P5: Trans", api.ErrArg, b.Trans(s, 0, 1, 2, 3, 4, key), 0)
+		}
+	}
+	for s := range b.sessions {
+		for _, keys := range [][]int{nil, {}, make([]int, 7), {0, 1, 2, 3, 4, 0, 9}, make([]int, 1000)} {
+			refused("P5: Trans", api.ErrArg, b.Trans(s, keys...), 0)
 		}
 	}
 	for key := range 5 {
 		refused("P5: Put", api.ErrBusy, b.Put(0, key, 1), 0)
 		refused("P5: Get", api.ErrBusy, b.Get(0, key), 0)
+		refused("P5: Trans", api.ErrBusy, b.Trans(0, key), 0)
+		refused("P5: Trans", api.ErrBusy, b.Trans(0, 0, 0, 1, 2, 3, key), 0)
 	}
 	for _, n := range noneOf(b.Bag()) {
 		refused("P6: Deliver", api.ErrArg, b.Deliver(n), 0)
@@ -139,6 +151,10 @@ func TestErrors(t *testing.T) {
 	}
 	for _, address := range noneOf(b.addresses()) {
 		refused("P6: Retry", api.ErrArg, b.Retry(address), 0)
+		refused("P6: Sweep", api.ErrArg, b.Sweep(address), 0)
+	}
+	for _, server := range noneOf(b.servers()) { // also where sessions stand
+		refused("P6: Sweep", api.ErrArg, b.Sweep(server), 0)
 	}
 	centre, e := b.Open(2)
 	refused("P4: Open", api.ErrArg, e, centre)
@@ -169,6 +185,17 @@ func TestStoredArgs(t *testing.T) {
 	}
 }
 
+// TestBusyWithTrans: so is a session whose Trans is not done, in either round.
+func TestBusyWithTrans(t *testing.T) {
+	b := fetching(t)
+	for _, e := range []api.Errno{b.Put(1, 0, 1), b.Get(1, 0), b.Trans(1, 0)} {
+		if e != api.ErrBusy {
+			t.Errorf("P5: answered %d", e)
+		}
+	}
+	b.ok(b.Get(0, 0), b.Deliver(0), b.Deliver(1), b.Trans(1, 0))
+}
+
 // TestSteps: what is OK is one step, and what only tells is none.
 func TestSteps(t *testing.T) {
 	b := newBench(t, config(2, 1, 1), 0)
@@ -182,6 +209,11 @@ func TestSteps(t *testing.T) {
 		func() api.Errno { return b.Retry(0) },
 		func() api.Errno { return b.Retry(1) }, // it has nothing to send
 		func() api.Errno { return b.Retry(2) },
+		func() api.Errno { return b.Deliver(1) }, // GET
+		func() api.Errno { return b.Deliver(3) }, // GOT
+		func() api.Errno { return b.Trans(0, 0) },
+		func() api.Errno { return b.Sweep(0) },
+		func() api.Errno { return b.Sweep(1) }, // it has nothing to sweep
 	} {
 		b.ok(do())
 		if b.picture(); b.Now() != i+1 {

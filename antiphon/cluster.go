@@ -30,8 +30,8 @@ func (x *Cluster) step() {
 }
 
 // begin the step of an operation, if the session is free for it.
-func (x *Cluster) begin(session, key int) api.Errno {
-	if !x.hasSession(session) || !x.plan.HasKey(key) {
+func (x *Cluster) begin(session int, keys ...int) api.Errno {
+	if !x.hasSession(session) || !x.hasAll(keys) {
 		return api.ErrArg
 	}
 	if x.sessions[session].IsBusy() {
@@ -39,4 +39,28 @@ func (x *Cluster) begin(session, key int) api.Errno {
 	}
 	x.step()
 	return api.OK
+}
+
+// hasAll tells whether these are as many keys as an operation may have, and
+// there are all of them.
+func (x *Cluster) hasAll(keys []int) bool {
+	if len(keys) < 1 || len(keys) > api.MaxTrans {
+		return false
+	}
+	for _, key := range keys {
+		if !x.plan.HasKey(key) {
+			return false
+		}
+	}
+	return true
+}
+
+// horizon of a Sweep that is being done: no Trans that is not done yet began
+// ahead of it.
+func (x *Cluster) horizon() int {
+	least := x.Now()
+	for _, s := range x.sessions {
+		least = min(least, s.Horizon())
+	}
+	return least
 }

@@ -25,7 +25,20 @@ func Example() {
 	}
 	results, _ = x.Results(there)
 	fmt.Println(results[0].Versions, results[0].Values)
+
+	x.Trans(there, 0, 1)
+	for x.Bag() > 0 {
+		x.Deliver(0)
+	}
+	results, _ = x.Results(there)
+	fmt.Println(results[1].Keys, results[1].Versions, results[1].Values)
+
+	x.Sweep(0)
+	stored, _ := x.Stored(0, 0)
+	fmt.Println(stored[0].Version, stored[0].Value, stored[0].Settled)
 	// Output:
 	// [{1 0}] [7]
 	// [{1 0}] [7]
+	// [0 1] [{1 0} {0 0}] [7 0]
+	// {1 0} 7 true
 }

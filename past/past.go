@@ -23,6 +23,15 @@ func Join(p []api.Dep, more ...api.Dep) []api.Dep {
 	return joined
 }
 
+// Of answers the version that p has of a key; none, if it has none.
+func Of(p []api.Dep, key int) api.Version {
+	place, found := slices.BinarySearchFunc(p, key, compareKey)
+	if !found {
+		return api.Version{}
+	}
+	return p[place].Version
+}
+
 // put writes into p, which must be Join's own.
 func put(p []api.Dep, d api.Dep) []api.Dep {
 	place, found := slices.BinarySearchFunc(p, d.Key, compareKey)

@@ -56,3 +56,15 @@ func TestJoinIsNew(t *testing.T) {
 		t.Error("P2: Join of nothing more is the same memory")
 	}
 }
+
+func TestOf(t *testing.T) {
+	p := []api.Dep{dep(1, 5, 0), dep(3, 1, 2)}
+	for key, want := range []api.Version{{}, version(5, 0), {}, version(1, 2), {}} {
+		if got := past.Of(p, key); got != want {
+			t.Errorf("Of(%v, %d) = %v, want %v", p, key, got, want)
+		}
+	}
+	if got := past.Of(nil, 0); got != (api.Version{}) {
+		t.Errorf("Of nothing = %v", got)
+	}
+}

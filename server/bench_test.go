@@ -58,6 +58,14 @@ func (b *bench) retries(want ...api.Message) {
 	b.sends(want)
 }
 
+// sweeps in a step of its own; nothing is sent for that.
+func (b *bench) sweeps(horizon int) {
+	b.t.Helper()
+	b.steps.Add(1)
+	b.server.Sweep(horizon)
+	b.sends(nil)
+}
+
 func (b *bench) sends(want []api.Message) {
 	b.t.Helper()
 	var texts []string

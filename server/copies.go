@@ -11,17 +11,21 @@ func (s *Server) sendCopies(w *write) {
 }
 
 func (s *Server) copy(m api.Message) {
-	w := s.reached[m.Version]
-	isNew := w == nil
-	if isNew {
-		w = s.keep(m.Version, m)
-		s.findNeeds(w)
-		s.sendNeeds(w)
+	if s.hasReached(m.Version) {
+		s.sendKept(m)
+		return
 	}
-	s.Send(api.Message{Kind: api.Kept, To: m.From, Key: m.Key, Version: m.Version})
-	if isNew && len(w.needs) == 0 {
+	w := s.keep(m.Version, m)
+	s.findNeeds(w)
+	s.sendNeeds(w)
+	s.sendKept(m)
+	if len(w.needs) == 0 {
 		s.becomeVisible(w)
 	}
+}
+
+func (s *Server) sendKept(m api.Message) {
+	s.Send(api.Message{Kind: api.Kept, To: m.From, Key: m.Key, Version: m.Version})
 }
 
 func (s *Server) kept(m api.Message) {
@@ -36,11 +40,11 @@ func (s *Server) sendSeen(w *write) {
 
 func (s *Server) seen(m api.Message) {
 	w := s.reached[m.Version]
-	if w == nil {
+	if s.isSwept(m.Version) || w != nil && w.Everywhere != 0 {
+		s.sendEverywhere(m.From, api.Dep{Key: m.Key, Version: m.Version})
 		return
 	}
-	if w.Everywhere != 0 {
-		s.sendEverywhere(m.From, w)
+	if w == nil {
 		return
 	}
 	w.seen[s.plan.Centre(m.From)] = true
@@ -49,7 +53,7 @@ func (s *Server) seen(m api.Message) {
 	}
 	w.Everywhere = s.Now()
 	for twin := range s.plan.Twins(s.Address()) {
-		s.sendEverywhere(twin, w)
+		s.sendEverywhere(twin, w.name())
 	}
 }
 
@@ -62,8 +66,8 @@ func (s *Server) isSeenByAll(w *write) bool {
 	return true
 }
 
-func (s *Server) sendEverywhere(to int, w *write) {
-	s.Send(api.Message{Kind: api.Everywhere, To: to, Key: w.key, Version: w.Version})
+func (s *Server) sendEverywhere(to int, d api.Dep) {
+	s.Send(api.Message{Kind: api.Everywhere, To: to, Key: d.Key, Version: d.Version})
 }
 
 func (s *Server) everywhere(m api.Message) {

@@ -15,9 +15,10 @@ type Server struct {
 	node.Node
 	plan plan.Plan
 
-	reached map[api.Version]*write
-	order   []*write       // what reached it, as it came
-	latest  map[int]*write // by keys
+	reached map[api.Version]*write // but what was swept away
+	order   []*write               // the same, as it came
+	latest  map[int]*write         // by keys
+	swept   map[api.Version]struct{}
 
 	waiting map[api.Version][]waiter // who asked for what is not visible here yet
 	needing map[api.Version][]*write // pending ones here that need what lives here, as they came
@@ -37,6 +38,7 @@ func New(p plan.Plan, number int, steps *atomic.Int64, send func(api.Message)) *
 		plan:    p,
 		reached: map[api.Version]*write{},
 		latest:  map[int]*write{},
+		swept:   map[api.Version]struct{}{},
 		waiting: map[api.Version][]waiter{},
 		needing: map[api.Version][]*write{},
 		puts:    map[int]lastPut{},
@@ -65,7 +67,7 @@ func (s *Server) Retry() {
 	}
 }
 
-// Stored tells what reached the server of a key.
+// Stored tells what reached the server of a key, and was not swept away.
 func (s *Server) Stored(key int) []api.Stored {
 	var all []api.Stored
 	for w := range s.writes() {

@@ -18,7 +18,7 @@ func (s *Server) findNeeds(w *write) {
 	for _, d := range w.Past {
 		if !s.livesHere(d.Key) {
 			w.needs = append(w.needs, d)
-		} else if s.visible(d.Version) == nil {
+		} else if !s.wasVisible(d.Version) {
 			w.needs = append(w.needs, d)
 			s.needing[d.Version] = append(s.needing[d.Version], w)
 		}
@@ -41,7 +41,7 @@ func (s *Server) sendNeeds(w *write) {
 
 func (s *Server) need(m api.Message) {
 	who := waiter{server: m.From, pends: m.For}
-	if s.visible(m.Version) != nil {
+	if s.wasVisible(m.Version) {
 		s.sendMet(who, api.Dep{Key: m.Key, Version: m.Version})
 		return
 	}

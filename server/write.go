@@ -41,7 +41,8 @@ func (s *Server) keep(v api.Version, m api.Message) *write {
 	return w
 }
 
-// writes goes through what reached the server, in the order in which it came.
+// writes goes through what reached the server and was not swept away, in the
+// order in which it came.
 func (s *Server) writes() iter.Seq[*write] {
 	return func(yield func(*write) bool) {
 		for _, w := range s.order {
@@ -52,10 +53,21 @@ func (s *Server) writes() iter.Seq[*write] {
 	}
 }
 
+// hasReached tells also of what was swept away.
+func (s *Server) hasReached(v api.Version) bool {
+	return s.reached[v] != nil || s.isSwept(v)
+}
+
 // visible answers the write of a version, or nil, if it is not visible here.
 func (s *Server) visible(v api.Version) *write {
 	if w := s.reached[v]; w != nil && !w.isPending() {
 		return w
 	}
 	return nil
+}
+
+// wasVisible tells whether a version is visible here, or was and has been
+// swept away.
+func (s *Server) wasVisible(v api.Version) bool {
+	return s.visible(v) != nil || s.isSwept(v)
 }

@@ -22,12 +22,6 @@ type Session struct {
 	results []api.Result
 }
 
-// operation that is not done yet.
-type operation struct {
-	kind, begun int
-	question    api.Message
-}
-
 // New makes a session that has seen nothing yet.
 func New(p plan.Plan, number, centre int, steps *atomic.Int64, send func(api.Message)) *Session {
 	return &Session{Node: node.New(p.Address(number), steps, send), plan: p, centre: centre}
@@ -48,47 +42,79 @@ func (s *Session) Get(key int) {
 	s.begin(api.DidGet, api.Message{Kind: api.Get, Key: key})
 }
 
-func (s *Session) begin(kind int, question api.Message) {
+// Trans begins to get several values together. The session must not be busy.
+func (s *Session) Trans(keys ...int) {
+	var questions []api.Message
+	for _, key := range keys {
+		questions = append(questions, api.Message{Kind: api.Get, Key: key})
+	}
+	s.begin(api.DidTrans, questions...)
+}
+
+func (s *Session) begin(kind int, questions ...api.Message) {
 	s.ops++
+	s.current = &operation{kind: kind, begun: s.Now(), places: make([]place, len(questions))}
+	for index, question := range questions {
+		s.ask(index, question)
+	}
+}
+
+func (s *Session) ask(index int, question api.Message) {
 	question.Op = s.ops
+	question.Index = index
 	question.To = s.plan.Home(s.centre, question.Key)
-	s.current = &operation{kind: kind, begun: s.Now(), question: question}
+	s.current.places[index].question = question
 	s.Send(question)
 }
 
 // Retry sends again what was not answered.
 func (s *Session) Retry() {
-	if s.IsBusy() {
-		s.Send(s.current.question)
-	}
-}
-
-// Receive a message. Answers to other operations are passed over, but for
-// the clock.
-func (s *Session) Receive(m api.Message) {
-	s.Hear(m)
-	if !s.IsBusy() || m.Op != s.ops {
+	if !s.IsBusy() {
 		return
 	}
-	switch m.Kind {
-	case api.Putted:
-		m.Value = s.current.question.Value
-		s.finish(m)
-	case api.Got:
-		s.finish(m)
+	for _, p := range s.current.places {
+		if !p.isAnswered() {
+			s.Send(p.question)
+		}
 	}
 }
 
-func (s *Session) finish(m api.Message) {
-	s.learn(m)
-	s.results = append(s.results, api.Result{
-		Kind:     s.current.kind,
-		Begun:    s.current.begun,
-		Done:     s.Now(),
-		Keys:     []int{m.Key},
-		Versions: []api.Version{m.Version},
-		Values:   []int{m.Value},
-	})
+// Receive a message. Answers to other operations, or that came already, are
+// passed over, but for the clock.
+func (s *Session) Receive(m api.Message) {
+	s.Hear(m)
+	if s.IsBusy() && m.Op == s.ops {
+		s.current.take(m)
+		s.goOn()
+	}
+}
+
+func (s *Session) goOn() {
+	if s.current.isAnswered() && s.current.mayFetch() {
+		s.fetch()
+	}
+	if s.current.isAnswered() {
+		s.finish()
+	}
+}
+
+// fetch what is wanted where less came.
+func (s *Session) fetch() {
+	s.current.hasFetched = true
+	wanted := s.current.wanted()
+	for index, p := range s.current.places {
+		version := past.Of(wanted, p.question.Key)
+		if past.Greater(version, p.answer.Version) {
+			s.ask(index, api.Message{Kind: api.Fetch, Key: p.question.Key, Version: version})
+		}
+	}
+}
+
+func (s *Session) finish() {
+	for _, p := range s.current.places {
+		s.learn(p.answer)
+	}
+	s.results = append(s.results, s.current.result(s.Now()))
 	s.current = nil
 }
 
@@ -98,6 +124,15 @@ func (s *Session) learn(m api.Message) {
 	}
 	s.context = past.Join(s.context, m.Past...)
 	s.context = past.Join(s.context, api.Dep{Key: m.Key, Version: m.Version})
+}
+
+// Horizon is the step in which a Trans began that is not done yet; or now, if
+// there is none.
+func (s *Session) Horizon() int {
+	if s.IsBusy() && s.current.kind == api.DidTrans {
+		return s.current.begun
+	}
+	return s.Now()
 }
 
 // Context tells what the session has put or seen, and the past of that.

@@ -62,10 +62,9 @@ func (b *bench) retries(want ...api.Message) {
 	b.step(b.session.Retry, want...)
 }
 
-// receives m; a session sends nothing then.
-func (b *bench) receives(m api.Message) {
+func (b *bench) receives(m api.Message, want ...api.Message) {
 	b.t.Helper()
-	b.step(func() { b.session.Receive(m) })
+	b.step(func() { b.session.Receive(m) }, want...)
 }
 
 func (b *bench) knows(want ...api.Dep) {
