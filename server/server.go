@@ -45,12 +45,10 @@ func New(p plan.Plan, number int, steps *atomic.Int64, send func(api.Message)) *
 	}
 }
 
-// Receive a message. A kind that nobody sends to servers is passed over.
+// Receive a message.
 func (s *Server) Receive(m api.Message) {
 	s.Hear(m)
-	if do := deeds[m.Kind]; do != nil {
-		do(s, m)
-	}
+	s.do(m)
 }
 
 // Retry sends again what may have been lost.
