@@ -27,8 +27,9 @@ func (s *Server) do(m api.Message) {
 	}
 }
 
-// deeds has the same as do, by kinds. What servers do hangs on do alone; a
-// test holds the two together.
+// deeds has the same as do, by kinds: the document's section 'Ways' asks for
+// such a table, made at start-up. What servers do hangs on do alone; a test
+// holds the two together.
 var deeds = makeDeeds()
 
 func makeDeeds() [api.Everywhere + 1]func(*Server, api.Message) {
@@ -46,7 +47,9 @@ func makeDeeds() [api.Everywhere + 1]func(*Server, api.Message) {
 }
 
 // IsReady tells whether start-up has made the table whole. It has, ahead of
-// any call; who makes servers asks, so that a gap would be seen at once.
+// any call, so this never fails. Who makes servers asks all the same: that is
+// the one place where a call reads the table, which nothing else has a use for,
+// and a gap in it would be seen there at once.
 func IsReady() bool {
 	for kind, deed := range deeds {
 		if isForServers(kind) != (deed != nil) {
